@@ -1,0 +1,1 @@
+"""Solids cut into layers."""

@@ -1,0 +1,150 @@
+"""What a file of triangles tells of a solid thing's skin, in whole thousandths."""
+
+FILE_IS_WRONG = -3
+
+COUNT_START = 80
+TRIANGLES_START = 84
+TRIANGLE_BYTES = 50
+FIRST_CORNER = 12
+CORNER_BYTES = 12
+SINGLE_BYTES = 4
+MOST_TRIANGLES = 20000
+FARTHEST = 1000000
+
+# The parts of a single's 32 bits: sign, 8 bits of exponent, 23 bits of fraction.
+FRACTION_BITS = 23
+HIDDEN_BIT = 8388608
+WHOLE_EXPONENT = 150
+
+
+class WrongFile(Exception):
+    pass
+
+
+def check(file):
+    try:
+        triangles = read_triangles(file)
+    except WrongFile:
+        return [FILE_IS_WRONG]
+    corners = different_corners(triangles)
+    closed = 1 if is_closed(triangles) else 0
+    return [closed, len(triangles), len(corners), count_parts(triangles)] + bounds(corners)
+
+
+def read_triangles(file):
+    triangles = []
+    for number in range(read_count(file)):
+        # Read before it is asked whether it counts: a wrong coordinate makes the file wrong either way.
+        triangle = read_triangle(file, TRIANGLES_START + TRIANGLE_BYTES * number)
+        if counts(triangle):
+            triangles.append(triangle)
+    return triangles
+
+
+def read_count(file):
+    if len(file) < TRIANGLES_START:
+        raise WrongFile()
+    count = read_bits(file, COUNT_START)
+    if count > MOST_TRIANGLES or len(file) != TRIANGLES_START + TRIANGLE_BYTES * count:
+        raise WrongFile()
+    return count
+
+
+def read_triangle(file, start):
+    first = start + FIRST_CORNER
+    return tuple([read_corner(file, first + CORNER_BYTES * place) for place in range(3)])
+
+
+def read_corner(file, start):
+    return tuple([coordinate(read_bits(file, start + SINGLE_BYTES * axis)) for axis in range(3)])
+
+
+def read_bits(file, start):
+    return file[start] + (file[start + 1] << 8) + (file[start + 2] << 16) + (file[start + 3] << 24)
+
+
+def coordinate(bits):
+    exponent = (bits >> FRACTION_BITS) & 255
+    # A single without a hidden bit is zero, or so near to it that it rounds to zero.
+    if exponent == 0:
+        return 0
+    # From here on a single is 8388608 or more, endless, or no number: too far out, whichever it is.
+    if exponent >= WHOLE_EXPONENT:
+        raise WrongFile()
+    fraction = HIDDEN_BIT + (bits & (HIDDEN_BIT - 1))
+    size = shift_to_nearest(1000 * fraction, WHOLE_EXPONENT - exponent)
+    if size > FARTHEST:
+        raise WrongFile()
+    return -size if bits >> 31 == 1 else size
+
+
+def shift_to_nearest(amount, shift):
+    whole = amount >> shift
+    rest = amount - (whole << shift)
+    half = 1 << (shift - 1)
+    if rest > half or (rest == half and whole % 2 == 1):
+        return whole + 1
+    return whole
+
+
+def counts(triangle):
+    return triangle[0] != triangle[1] and triangle[1] != triangle[2] and triangle[2] != triangle[0]
+
+
+def different_corners(triangles):
+    corners = {}
+    for triangle in triangles:
+        for corner in triangle:
+            corners[corner] = True
+    return list(corners)
+
+
+def bounds(corners):
+    limits = []
+    for axis in range(3):
+        along = [corner[axis] for corner in corners]
+        limits.append(min(along, default=0))
+        limits.append(max(along, default=0))
+    return limits
+
+
+def edges_of(triangle):
+    return [(triangle[0], triangle[1]), (triangle[1], triangle[2]), (triangle[2], triangle[0])]
+
+
+def other_way(edge):
+    return (edge[1], edge[0])
+
+
+def is_closed(triangles):
+    edges = {}
+    for triangle in triangles:
+        for edge in edges_of(triangle):
+            if edge in edges:
+                return False
+            edges[edge] = True
+    return all([other_way(edge) in edges for edge in edges])
+
+
+def count_parts(triangles):
+    # Each triangle begins as a part of its own; an edge that was met before joins two parts into one.
+    leaders = list(range(len(triangles)))
+    holders = {}
+    parts = len(triangles)
+    for number, triangle in enumerate(triangles):
+        for edge in edges_of(triangle):
+            holder = holders.setdefault(min(edge, other_way(edge)), number)
+            here = find_leader(leaders, number)
+            there = find_leader(leaders, holder)
+            if here != there:
+                leaders[here] = there
+                parts -= 1
+    return parts
+
+
+def find_leader(leaders, number):
+    while leaders[number] != number:
+        # Halving the way keeps long chains of joined parts short.
+        leaders[number] = leaders[leaders[number]]
+        number = leaders[number]
+    return number

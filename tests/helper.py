@@ -1,0 +1,59 @@
+"""Builds files of triangles for the tests."""
+
+import struct
+
+REFUSED = [-3]
+EMPTY = [1, 0, 0, 0, 0, 0, 0, 0, 0, 0]
+
+
+def single(thousandths):
+    """The bits of the single that lies nearest to so many thousandths."""
+    return struct.unpack("<I", struct.pack("<f", thousandths / 1000))[0]
+
+
+def raw_file(triangles, count=None, unread=0):
+    """A file of triangles of nine singles' bits each; unread fills every byte that isn't looked at."""
+    data = bytes([unread] * 80) + struct.pack("<I", len(triangles) if count is None else count)
+    for triangle in triangles:
+        data += bytes([unread] * 12) + struct.pack("<9I", *triangle) + bytes([unread] * 2)
+    return list(data)
+
+
+def bits_of(triangle):
+    return [single(number) for corner in triangle for number in corner]
+
+
+def solid_file(triangles, unread=0):
+    """A file of triangles whose corners are told in whole thousandths."""
+    return raw_file([bits_of(triangle) for triangle in triangles], unread=unread)
+
+
+def moved(triangles, x, y, z):
+    return [tuple((a + x, b + y, c + z) for a, b, c in triangle) for triangle in triangles]
+
+
+def tetrahedron(size=10):
+    o, a, b, c = (0, 0, 0), (size, 0, 0), (0, size, 0), (0, 0, size)
+    return [(o, b, a), (o, a, c), (o, c, b), (a, b, c)]
+
+
+def box(low, high):
+    """Twelve triangles round a box, corners against the clock as seen from outside."""
+    def at(k):
+        return tuple((high if k >> axis & 1 else low)[axis] for axis in range(3))
+    sides = [(0, 2, 3, 1), (4, 5, 7, 6), (0, 1, 5, 4), (2, 6, 7, 3), (0, 4, 6, 2), (1, 3, 7, 5)]
+    triangles = []
+    for a, b, c, d in sides:
+        triangles += [(at(a), at(b), at(c)), (at(a), at(c), at(d))]
+    return triangles
+
+
+def double_pyramid(sides):
+    """A closed skin of twice as many triangles as its ring has sides."""
+    ring = [(k, 2 * k, 0) for k in range(sides)]
+    top, bottom = (0, 0, 5000), (0, 0, -5000)
+    triangles = []
+    for k in range(sides):
+        here, there = ring[k], ring[(k + 1) % sides]
+        triangles += [(here, there, top), (there, here, bottom)]
+    return triangles
