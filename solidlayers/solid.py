@@ -1,6 +1,7 @@
 """What a file of triangles tells of a solid thing's skin, in whole thousandths."""
 
 FILE_IS_WRONG = -3
+SKIN_IS_OPEN = -4
 
 COUNT_START = 80
 TRIANGLES_START = 84
@@ -21,6 +22,10 @@ class WrongFile(Exception):
     pass
 
 
+class OpenSkin(Exception):
+    pass
+
+
 def check(file):
     try:
         triangles = read_triangles(file)
@@ -29,6 +34,25 @@ def check(file):
     corners = different_corners(triangles)
     closed = 1 if is_closed(triangles) else 0
     return [closed, len(triangles), len(corners), count_parts(triangles)] + bounds(corners)
+
+
+def room(file):
+    try:
+        triangles = read_closed_skin(file)
+    except WrongFile:
+        return [FILE_IS_WRONG]
+    except OpenSkin:
+        return [SKIN_IS_OPEN]
+    six_times = sum([determinant(triangle) for triangle in triangles])
+    # A remainder is never negative here, and a shift rounds down: so a negative room comes out modulo 2^128 by itself.
+    return [0, six_times % 2 ** 64, (six_times >> 64) % 2 ** 64]
+
+
+def read_closed_skin(file):
+    triangles = read_triangles(file)
+    if not is_closed(triangles):
+        raise OpenSkin()
+    return triangles
 
 
 def read_triangles(file):
@@ -148,3 +172,13 @@ def find_leader(leaders, number):
         leaders[number] = leaders[leaders[number]]
         number = leaders[number]
     return number
+
+
+def determinant(triangle):
+    a = triangle[0]
+    b = triangle[1]
+    c = triangle[2]
+    along_x = a[0] * (b[1] * c[2] - b[2] * c[1])
+    along_y = a[1] * (b[0] * c[2] - b[2] * c[0])
+    along_z = a[2] * (b[0] * c[1] - b[1] * c[0])
+    return along_x - along_y + along_z

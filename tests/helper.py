@@ -3,7 +3,72 @@
 import struct
 
 REFUSED = [-3]
+NOT_CLOSED = [-4]
 EMPTY = [1, 0, 0, 0, 0, 0, 0, 0, 0, 0]
+
+
+class Untouched(list):
+    """A list that fails whoever tries to change it."""
+
+    def refuse(self, *args, **kwargs):
+        raise AssertionError("what was handed in is being changed")
+
+    __setitem__ = __delitem__ = __iadd__ = __imul__ = refuse
+    append = clear = extend = insert = pop = remove = reverse = sort = refuse
+
+
+class CallRules:
+    """What holds for every call, whatever it is asked: a test case gives the call and lists of its arguments, of
+    which the last is the file."""
+
+    def call(self, *arguments):
+        raise NotImplementedError
+
+    def arguments(self):
+        raise NotImplementedError
+
+    def test_what_was_handed_in_is_as_it_was(self):
+        for *numbers, file in self.arguments():
+            before = list(file)
+            self.call(*numbers, file)
+            self.assertEqual(file, before)
+
+    def test_what_was_handed_in_is_not_changed_for_a_while_either(self):
+        for *numbers, file in self.arguments():
+            self.assertEqual(self.call(*numbers, Untouched(file)), self.call(*numbers, file))
+
+    def test_called_again(self):
+        arguments = self.arguments()
+        first = [self.call(*each) for each in arguments]
+        self.assertEqual([self.call(*each) for each in arguments], first)
+        self.assertEqual([self.call(*each) for each in arguments[::-1]], first[::-1])
+
+    def test_changing_an_answer_changes_no_later_one(self):
+        for each in self.arguments():
+            answer = self.call(*each)
+            kept = list(answer)
+            answer.clear()
+            self.assertEqual(self.call(*each), kept)
+
+    def test_kinds(self):
+        for each in self.arguments():
+            answer = self.call(*each)
+            self.assertIs(type(answer), list)
+            self.assertEqual({type(number) for number in answer}, {int})
+
+
+def sample_files():
+    """Files of every sort: wrong ones, closed skins and open ones."""
+    return [
+        [],
+        [0] * 84,
+        [0] * 85,
+        solid_file(tetrahedron()),
+        solid_file(tetrahedron()[:3]),
+        solid_file(box((-9, -8, -7), (6, 5, 4))),
+        solid_file([((1, 1, 1), (1, 1, 1), (2, 2, 2))]),
+        solid_file([((1, 1, 1), (1000001, 1, 1), (2, 2, 2))]),
+    ]
 
 
 def single(thousandths):
@@ -30,6 +95,10 @@ def solid_file(triangles, unread=0):
 
 def moved(triangles, x, y, z):
     return [tuple((a + x, b + y, c + z) for a, b, c in triangle) for triangle in triangles]
+
+
+def inside_out(triangles):
+    return [triangle[::-1] for triangle in triangles]
 
 
 def tetrahedron(size=10):

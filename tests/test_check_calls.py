@@ -5,20 +5,10 @@ import time
 import unittest
 
 from solidlayers.solid import check
-from tests.helper import EMPTY, REFUSED, box, double_pyramid, moved, solid_file, tetrahedron
+from tests.helper import EMPTY, REFUSED, CallRules, double_pyramid, moved, sample_files, solid_file, tetrahedron
 
 MOST = 1198
 SECONDS = 20
-
-
-class Untouched(list):
-    """A list that fails whoever tries to change it."""
-
-    def refuse(self, *args, **kwargs):
-        raise AssertionError("what was handed in is being changed")
-
-    __setitem__ = __delitem__ = __iadd__ = __imul__ = refuse
-    append = clear = extend = insert = pop = remove = reverse = sort = refuse
 
 
 class LongFiles(unittest.TestCase):
@@ -67,47 +57,16 @@ class LongFiles(unittest.TestCase):
         self.assert_answer([((k, 0, 0), (k, 0, 0), (0, k, 0)) for k in range(MOST)], EMPTY)
 
 
-class Calls(unittest.TestCase):
-    def files(self):
-        return [
-            [],
-            [0] * 84,
-            [0] * 85,
-            solid_file(tetrahedron()),
-            solid_file(tetrahedron()[:3]),
-            solid_file(box((-9, -8, -7), (6, 5, 4))),
-            solid_file([((1, 1, 1), (1, 1, 1), (2, 2, 2))]),
-            solid_file([((1, 1, 1), (1000001, 1, 1), (2, 2, 2))]),
-        ]
+class Calls(CallRules, unittest.TestCase):
+    def call(self, file):
+        return check(file)
 
-    def test_what_was_handed_in_is_as_it_was(self):
-        for file in self.files():
-            before = list(file)
-            check(file)
-            self.assertEqual(file, before)
+    def arguments(self):
+        return [[file] for file in sample_files()]
 
-    def test_what_was_handed_in_is_not_changed_for_a_while_either(self):
-        for file in self.files():
-            self.assertEqual(check(Untouched(file)), check(file))
-
-    def test_called_again(self):
-        files = self.files()
-        first = [check(file) for file in files]
-        self.assertEqual([check(file) for file in files], first)
-        self.assertEqual([check(file) for file in files[::-1]], first[::-1])
-
-    def test_changing_an_answer_changes_no_later_one(self):
-        for file in self.files():
+    def test_how_many_numbers(self):
+        for file in sample_files():
             answer = check(file)
-            kept = list(answer)
-            answer.clear()
-            self.assertEqual(check(file), kept)
-
-    def test_kinds(self):
-        for file in self.files():
-            answer = check(file)
-            self.assertIs(type(answer), list)
-            self.assertEqual({type(number) for number in answer}, {int})
             self.assertTrue(answer == REFUSED or len(answer) == 10)
 
     def test_by_its_name(self):
