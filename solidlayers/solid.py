@@ -1,5 +1,7 @@
 """What a file of triangles tells of a solid thing's skin, in whole thousandths."""
 
+MORE_THAN_MOST = -1
+OUT_OF_RANGE = -2
 FILE_IS_WRONG = -3
 SKIN_IS_OPEN = -4
 
@@ -11,6 +13,10 @@ CORNER_BYTES = 12
 SINGLE_BYTES = 4
 MOST_TRIANGLES = 20000
 FARTHEST = 1000000
+
+X = 0
+Y = 1
+Z = 2
 
 # The parts of a single's 32 bits: sign, 8 bits of exponent, 23 bits of fraction.
 FRACTION_BITS = 23
@@ -46,6 +52,25 @@ def room(file):
     six_times = sum([determinant(triangle) for triangle in triangles])
     # A remainder is never negative here, and a shift rounds down: so a negative room comes out modulo 2^128 by itself.
     return [0, six_times % 2 ** 64, (six_times >> 64) % 2 ** 64]
+
+
+def layer(z, most, file):
+    if not is_within_reach(z) or most < 0:
+        return [OUT_OF_RANGE]
+    try:
+        triangles = read_closed_skin(file)
+    except WrongFile:
+        return [FILE_IS_WRONG]
+    except OpenSkin:
+        return [SKIN_IS_OPEN]
+    numbers = loop_numbers(cut_loops(triangles, z))
+    if len(numbers) > most:
+        return [MORE_THAN_MOST]
+    return [len(numbers)] + numbers
+
+
+def is_within_reach(number):
+    return -FARTHEST <= number <= FARTHEST
 
 
 def read_closed_skin(file):
@@ -182,3 +207,54 @@ def determinant(triangle):
     along_y = a[1] * (b[0] * c[2] - b[2] * c[0])
     along_z = a[2] * (b[0] * c[1] - b[1] * c[0])
     return along_x - along_y + along_z
+
+
+def cut_loops(triangles, z):
+    onward = ways_onward(triangles, z)
+    loops = []
+    passed = {}
+    # A dict keeps the order in which its keys came: the first edge not passed yet is of the first triangle in no loop.
+    for start in onward:
+        loop = []
+        edge = start
+        while edge not in passed:
+            passed[edge] = True
+            edge = onward[edge]
+            loop.append((cut_at(edge, Z, z, X), cut_at(edge, Z, z, Y)))
+        if loop:
+            loops.append(loop)
+    return loops
+
+
+def ways_onward(triangles, z):
+    # From a cut triangle's edge down to its edge up. The edge down is kept the other way, as the edge up by which
+    # one comes from the triangle before; in a closed skin each leads from one triangle into just one other.
+    onward = {}
+    for triangle in triangles:
+        edges = edges_of(triangle)
+        up = [edge for edge in edges if rises_through(edge, Z, z)]
+        down = [other_way(edge) for edge in edges if rises_through(other_way(edge), Z, z)]
+        if up:
+            onward[down[0]] = up[0]
+    return onward
+
+
+def rises_through(edge, axis, level):
+    # The cut lies half a thousandth above the level: what is on the level itself is below.
+    return edge[0][axis] <= level < edge[1][axis]
+
+
+def cut_at(edge, axis, level, asked):
+    low = edge[0]
+    high = edge[1]
+    risen = 2 * level + 1 - 2 * low[axis]
+    return low[asked] + (high[asked] - low[asked]) * risen // (2 * (high[axis] - low[axis]))
+
+
+def loop_numbers(loops):
+    numbers = []
+    for loop in loops:
+        numbers.append(len(loop))
+        for point in loop:
+            numbers.extend(point)
+    return numbers

@@ -1,9 +1,16 @@
 """Builds files of triangles for the tests."""
 
+import math
+import random
 import struct
+from fractions import Fraction
 
 REFUSED = [-3]
 NOT_CLOSED = [-4]
+OUT_OF_RANGE = [-2]
+TOO_MANY = [-1]
+FAR = 1000000
+LEAST_INT, GREATEST_INT = -2147483648, 2147483647
 EMPTY = [1, 0, 0, 0, 0, 0, 0, 0, 0, 0]
 
 
@@ -117,12 +124,88 @@ def box(low, high):
     return triangles
 
 
-def double_pyramid(sides):
-    """A closed skin of twice as many triangles as its ring has sides."""
-    ring = [(k, 2 * k, 0) for k in range(sides)]
-    top, bottom = (0, 0, 5000), (0, 0, -5000)
+def ring_solid(ring, top, bottom):
+    """A closed skin round a ring of corners, against the clock as seen from the top."""
     triangles = []
-    for k in range(sides):
-        here, there = ring[k], ring[(k + 1) % sides]
+    for k, here in enumerate(ring):
+        there = ring[(k + 1) % len(ring)]
         triangles += [(here, there, top), (there, here, bottom)]
     return triangles
+
+
+def double_pyramid(sides):
+    """A closed skin of twice as many triangles as its ring has sides."""
+    return ring_solid([(k, 2 * k, 0) for k in range(sides)], (0, 0, 5000), (0, 0, -5000))
+
+
+def two_feet():
+    """One part that stands on two feet: up to 4 it has two loops, from 5 on just one."""
+    return ring_solid([(-10, 0, -10), (0, -10, 10), (10, 0, -10), (0, 10, 10)], (0, 0, 20), (0, 0, 5))
+
+
+def folded_band(half):
+    """A closed skin of four times as many triangles as half, all of them cut between its low and its high corners, and
+    one loop through all of them: a band whose lower rim is folded onto itself, and its upper rim a bit further on."""
+    low = [(100 * k, k * k % 97 - 60, -1000 - k) for k in range(half + 1)]
+    high = [(100 * k + 30, 50 - k * k % 89, 1000 + k % 7) for k in range(half + 1)]
+
+    def at(rim, place):
+        place %= 2 * half
+        return rim[min(place, 2 * half - place)]
+    triangles = []
+    for k in range(2 * half):
+        here, there = at(low, k), at(low, k + 1)
+        above, beyond = at(high, k + half // 2), at(high, k + 1 + half // 2)
+        triangles += [(here, there, above), (there, beyond, above)]
+    return triangles
+
+
+def crumpled(triangles, seed, far):
+    """The same skin with its corners put anywhere: as closed as before, unless two come to lie in one place."""
+    made = random.Random(seed)
+    places = {}
+    for triangle in triangles:
+        for corner in triangle:
+            places.setdefault(corner, tuple(made.randint(-far, far) for axis in range(3)))
+    return [tuple(places[corner] for corner in triangle) for triangle in triangles]
+
+
+def is_closed_by_words(triangles):
+    edges = [edge for t in triangles if len(set(t)) == 3 for edge in zip(t, t[1:] + t[:1])]
+    return len(set(edges)) == len(edges) and all((b, a) in edges for a, b in edges)
+
+
+def where(p, q, axis, level, asked):
+    """Where the way from p to q reaches a level and a half, rounded down, by exact fractions."""
+    share = (level + Fraction(1, 2) - p[axis]) / (q[axis] - p[axis])
+    return math.floor(p[asked] + (q[asked] - p[asked]) * share)
+
+
+def loops_by_words(triangles, z):
+    """The loops of a closed skin, told from the document's words by the slowest way."""
+    cut = []
+    for t in triangles:
+        if len(set(t)) == 3 and min(c[2] for c in t) < z + Fraction(1, 2) < max(c[2] for c in t):
+            edges = list(zip(t, t[1:] + t[:1]))
+            up = [(p, q) for p, q in edges if p[2] <= z < q[2]]
+            down = [(p, q) for p, q in edges if q[2] <= z < p[2]]
+            assert len(up) == len(down) == 1
+            cut.append((up[0], down[0]))
+    loops, done = [], []
+    for number in range(len(cut)):
+        if number not in done:
+            loop, here = [], number
+            while not loop or here != number:
+                done.append(here)
+                (p, q), down = cut[here]
+                loop.append((where(p, q, 2, z, 0), where(p, q, 2, z, 1)))
+                here = [down for up, down in cut].index((q, p))
+            loops.append(loop)
+    return loops
+
+
+def layer_by_words(triangles, z):
+    numbers = []
+    for loop in loops_by_words(triangles, z):
+        numbers += [len(loop)] + [number for point in loop for number in point]
+    return [len(numbers)] + numbers

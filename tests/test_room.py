@@ -1,16 +1,14 @@
 """Promise 2: six times the room inside, with sign, modulo 2^128."""
 
-import random
 import time
 import unittest
 
-from solidlayers.solid import check, room
+from solidlayers.solid import room
 from tests.helper import (
-    NOT_CLOSED, REFUSED, CallRules, bits_of, box, double_pyramid, inside_out, moved, raw_file, sample_files, single,
-    solid_file, tetrahedron,
+    FAR, NOT_CLOSED, REFUSED, CallRules, bits_of, box, crumpled, double_pyramid, inside_out, is_closed_by_words, moved,
+    raw_file, sample_files, single, solid_file, tetrahedron,
 )
 
-FAR = 1000000
 SECONDS = 20
 NOTHING = [0, 0, 0]
 
@@ -80,19 +78,15 @@ class Ordinary(unittest.TestCase):
         self.assert_room(triangles, 1000)
 
     def test_against_another_way(self):
-        made = random.Random(31)
-        for size in range(200):
-            far = made.choice([3, 100, 5000, FAR])
-            names = {}
-            for triangle in double_pyramid(3 + size % 12):
-                for corner in triangle:
-                    names.setdefault(corner, tuple(made.randint(-far, far) for axis in range(3)))
-            triangles = [tuple(names[corner] for corner in triangle) for triangle in double_pyramid(3 + size % 12)]
-            file = solid_file(triangles)
-            if check(file)[0] == 1:
-                self.assertEqual(room(file), answer_for(added(triangles)), triangles)
+        closed = 0
+        for seed in range(200):
+            triangles = crumpled(double_pyramid(3 + seed % 12), seed, [3, 100, 5000, FAR][seed % 4])
+            if is_closed_by_words(triangles):
+                closed += 1
+                self.assert_room(triangles, added(triangles))
             else:
-                self.assertEqual(room(file), NOT_CLOSED, triangles)
+                self.assertEqual(room(solid_file(triangles)), NOT_CLOSED, triangles)
+        self.assertTrue(150 < closed < 200)
 
 
 class Great(unittest.TestCase):
