@@ -69,6 +69,23 @@ def layer(z, most, file):
     return [len(numbers)] + numbers
 
 
+def fill(z, first, step, most, file):
+    if not (is_within_reach(z) and is_within_reach(first) and 1 <= step <= FARTHEST and most >= 0):
+        return [OUT_OF_RANGE]
+    try:
+        triangles = read_closed_skin(file)
+    except WrongFile:
+        return [FILE_IS_WRONG]
+    except OpenSkin:
+        return [SKIN_IS_OPEN]
+    sides = rising_sides(cut_loops(triangles, z))
+    # Counted before any is told: a small file may have a thousand million crossings, far more than there is room for.
+    if count_line_numbers(sides, first, step) > most:
+        return [MORE_THAN_MOST]
+    numbers = line_numbers(crossings_by_line(sides, first, step))
+    return [len(numbers)] + numbers
+
+
 def is_within_reach(number):
     return -FARTHEST <= number <= FARTHEST
 
@@ -257,4 +274,53 @@ def loop_numbers(loops):
         numbers.append(len(loop))
         for point in loop:
             numbers.extend(point)
+    return numbers
+
+
+def rising_sides(loops):
+    sides = []
+    for loop in loops:
+        # The side before the first point comes from the last one, whose index is -1.
+        for number, point in enumerate(loop):
+            side = (loop[number - 1], point)
+            sides.append(side if side[0][Y] <= side[1][Y] else other_way(side))
+    return sides
+
+
+def lines_below(y, first, step):
+    return max(0, (y - first + step - 1) // step)
+
+
+def count_line_numbers(sides, first, step):
+    spans = [(lines_below(low[Y], first, step), lines_below(high[Y], first, step)) for low, high in sides]
+    crossings = sum([end - start for start, end in spans])
+    return 2 * count_crossed_lines(spans) + crossings
+
+
+def count_crossed_lines(spans):
+    lines = 0
+    reached = 0
+    for start, end in sorted(spans):
+        # Lines that an earlier span has reached are counted already.
+        lines += max(0, end - max(start, reached))
+        reached = max(reached, end)
+    return lines
+
+
+def crossings_by_line(sides, first, step):
+    crossings = {}
+    for side in sides:
+        start = first + step * lines_below(side[0][Y], first, step)
+        # No point lies beyond the farthest y, so no line beyond it is met.
+        for y in range(start, side[1][Y], step):
+            crossings.setdefault(y, []).append(cut_at(side, Y, y, X))
+    return crossings
+
+
+def line_numbers(crossings):
+    numbers = []
+    for y in sorted(crossings):
+        numbers.append(y)
+        numbers.append(len(crossings[y]) // 2)
+        numbers.extend(sorted(crossings[y]))
     return numbers

@@ -143,6 +143,13 @@ def two_feet():
     return ring_solid([(-10, 0, -10), (0, -10, 10), (10, 0, -10), (0, 10, 10)], (0, 0, 20), (0, 0, 5))
 
 
+def cone(points):
+    """A closed skin whose layer at 0 is one loop of just these points, beginning with the first."""
+    # From a tip at 0 to a ring at 1 and twice as far out, the layer lies half the way.
+    ring = [(2 * x, 2 * y, 1) for x, y in points[-1:] + points[:-1]]
+    return ring_solid(ring, (0, 0, 2), (0, 0, 0))
+
+
 def folded_band(half):
     """A closed skin of four times as many triangles as half, all of them cut between its low and its high corners, and
     one loop through all of them: a band whose lower rim is folded onto itself, and its upper rim a bit further on."""
@@ -208,4 +215,23 @@ def layer_by_words(triangles, z):
     numbers = []
     for loop in loops_by_words(triangles, z):
         numbers += [len(loop)] + [number for point in loop for number in point]
+    return [len(numbers)] + numbers
+
+
+def fill_by_words(triangles, z, first, step):
+    """The lines of a closed skin's layer, told from the document's words by the slowest way."""
+    loops = loops_by_words(triangles, z)
+    sides = [side for loop in loops for side in zip(loop, loop[1:] + loop[:1])]
+    heights = [point[1] for loop in loops for point in loop] or [0]
+    least, greatest = min(heights), max(heights)
+    numbers = []
+    # Lines above all points and below all of them cross nothing.
+    for y in [y for y in range(first, min(FAR, greatest) + 1, step) if least <= y]:
+        crossings = []
+        for p, q in sides:
+            if min(p[1], q[1]) < y + Fraction(1, 2) < max(p[1], q[1]):
+                crossings.append(where(*sorted((p, q), key=lambda point: point[1]), 1, y, 0))
+        assert len(crossings) % 2 == 0
+        if crossings:
+            numbers += [y, len(crossings) // 2] + sorted(crossings)
     return [len(numbers)] + numbers
