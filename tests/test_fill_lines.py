@@ -278,7 +278,8 @@ class Flattened(unittest.TestCase):
         a, b, c = (0, 0, 0), (10, 0, 10), (0, 20, 10)
         # The loop is (4, 0), (0, 9).
         expected = [4 - (4 * (2 * y + 1) + 17) // 18 for y in range(9)]
-        self.assertEqual(lines_of(filled([(a, b, c), (a, c, b)], 4, -5, 1)), [(y, [x, x]) for y, x in enumerate(expected)])
+        answer = filled([(a, b, c), (a, c, b)], 4, -5, 1)
+        self.assertEqual(lines_of(answer), [(y, [x, x]) for y, x in enumerate(expected)])
 
     def test_sides_that_cross_one_another(self):
         # A bow tie: what its sides cross is told in order, not by side.
